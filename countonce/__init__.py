@@ -1,0 +1,1 @@
+"""Countonce: reports that count each row once."""
