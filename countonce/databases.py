@@ -4,11 +4,16 @@ from countonce.schemas import optional_columns
 from countonce.texts import HIGHEST
 
 
+def is_integer(value):
+    """Tell whether any value is an integer; True and False are none."""
+    return isinstance(value, int) and not isinstance(value, bool)
+
+
 def is_cell(value):
     """Tell whether any value is a cell: None or an integer from 0 to the highest value."""
     if value is None:
         return True
-    return isinstance(value, int) and not isinstance(value, bool) and 0 <= value <= HIGHEST
+    return is_integer(value) and 0 <= value <= HIGHEST
 
 
 def is_row(table, value):
@@ -37,6 +42,11 @@ def is_valid(schema, database):
     for _ in violations(schema, database):
         return False
     return True
+
+
+def is_valid_database(schema, value):
+    """Tell whether any value is a valid database of a schema."""
+    return is_database(schema, value) and is_valid(schema, value)
 
 
 def violations(schema, database):

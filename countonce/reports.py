@@ -44,6 +44,33 @@ class Report:
         return isinstance(other, Report) and self.schema == other.schema and self._text == other._text
 
 
+def alias_tables(report):
+    """Return a dict from the aliases of a report, in their order, to their tables."""
+    return {alias: report.schema.table(name) for alias, name in report.aliases}
+
+
+def all_columns(report):
+    """Return the list of all columns of a report, alias by alias."""
+    tables = alias_tables(report)
+    return [(alias, name) for alias in tables for name in tables[alias].columns]
+
+
+def measured_columns(report):
+    """Return the list of the columns of a report's measured alias."""
+    return [column for column in all_columns(report) if column[0] == report.aliases[0][0]]
+
+
+def tested_columns(report):
+    """Return the list of the columns that stand in a link or a filter, as often as they do."""
+    linked = [column for link in report.links for column in link]
+    return linked + [column for column, _ in report.filters]
+
+
+def filter_values(report):
+    """Return the list of the values of a report's filters, as often as they occur."""
+    return [value for _, value in report.filters]
+
+
 def report_rows(report):
     """Return the rows of a report's text form."""
     rows = [f"report {report.name}"]

@@ -1,6 +1,8 @@
 """Texts that several tests use, and ways to make wrong texts of right ones."""
 
 from countonce.errors import InvalidText
+from countonce.reports import Report
+from countonce.schemas import Schema
 
 # The schema of point 6 of the document. There, the table clients is called
 # customers, which is no name: it has nine letters, and point 4 allows eight.
@@ -47,6 +49,33 @@ TREE = """table a
   key x
   optional y -> a
   optional z -> a
+end"""
+
+# Two keys, a required and an optional reference of several columns, and optional ones to the own table.
+WIDE = """table a
+  column p
+  column q
+  column r
+  key q p
+  key r
+end
+table b
+  column k
+  column x
+  column y
+  column v
+  column w
+  key k
+  ref y x -> a
+  optional v w -> a
+end
+table c
+  column k
+  column up
+  column b
+  key k
+  optional up -> c
+  optional b -> b
 end"""
 
 # The report of point 9 of the document. It is a report of both schemas.
@@ -101,3 +130,9 @@ def edited(rows, pool):
                 yield rows[:at] + [row[:place] + sign + row[place + 1:]] + rows[at + 1:]
             yield rows[:at] + [row[:place] + " " + row[place:]] + rows[at + 1:]
             yield rows[:at] + [row[:place], row[place:]] + rows[at + 1:]
+
+
+def report_of(schema, rows):
+    """Return the report of a schema's text and of its own rows, written one behind the other with semicolons."""
+    inner = "\n".join(f"  {row}" for row in rows.split("; "))
+    return Report.parse(Schema.parse(schema), f"report r\n{inner}\nend")

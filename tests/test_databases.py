@@ -5,66 +5,12 @@ import unittest
 
 from countonce.databases import is_database, is_valid, violations
 from countonce.schemas import Schema
-from tests.samples import ANY_VALUES, SHOP, SMALL, TREE, nested
-
-# Two keys, a required and an optional reference of several columns, and optional ones to the own table.
-WIDE = """table a
-  column p
-  column q
-  column r
-  key q p
-  key r
-end
-table b
-  column k
-  column x
-  column y
-  column v
-  column w
-  key k
-  ref y x -> a
-  optional v w -> a
-end
-table c
-  column k
-  column up
-  column b
-  key k
-  optional up -> c
-  optional b -> b
-end"""
+from tests.plain import plain_violations
+from tests.samples import ANY_VALUES, SHOP, SMALL, TREE, WIDE, nested
 
 
 def empty(schema):
     return {table.name: [] for table in schema.tables}
-
-
-def plain_violations(schema, database):
-    """Return the sorted list of all violations, straight from the words of point 7."""
-    found = []
-    for table in schema.tables:
-        rows = database[table.name]
-        cells = [dict(zip(table.columns, row)) for row in rows]
-        free = {column for columns, _, required in table.refers if not required for column in columns}
-        for row, cell in zip(rows, cells):
-            wrong = any(cell[column] is None for column in table.columns if column not in free)
-            for columns, _, required in table.refers:
-                nones = [cell[column] is None for column in columns]
-                wrong = wrong or (not required and any(nones) and not all(nones))
-            if wrong:
-                found.append(("cell", table.name, row))
-        for key in table.unique:
-            for one, two in itertools.combinations(range(len(rows)), 2):
-                if all(cells[one][c] is not None and cells[one][c] == cells[two][c] for c in key):
-                    found.append(("key", table.name, rows[one], rows[two], key))
-        for number, (columns, target, _) in enumerate(table.refers):
-            other = schema.table(target)
-            mains = [[dict(zip(other.columns, row))[c] for c in other.unique[0]] for row in database[target]]
-            for row, cell in zip(rows, cells):
-                wanted = [cell[column] for column in columns]
-                if None not in wanted and wanted not in mains:
-                    found.append(("reference", table.name, row, number))
-    return sorted(found, key=repr)
 
 
 class DatabaseCase(unittest.TestCase):
