@@ -1,10 +1,10 @@
 """Dropping aliases without which a report has the same pairs."""
 
 from countonce.classes import Classes
-from countonce.databases import optional_columns
 from countonce.errors import NeededAlias, UnknownAlias
 from countonce.inclusion import inclusion, is_inclusion
 from countonce.reports import Report, alias_tables, all_columns, tested_columns
+from countonce.schemas import optional_columns
 
 
 def without(report, alias):

@@ -52,7 +52,8 @@ def joining_cells(report, places, before, alias):
     """
     own = []
     wanted = []
-    for one, two in [*report.links, *[(two, one) for one, two in report.links]]:
+    turned = [(other, column) for column, other in report.links]
+    for one, two in [*report.links, *turned]:
         if one[0] == alias and two[0] in before:
             own.append(places[one])
             wanted.append((before.index(two[0]), places[two]))

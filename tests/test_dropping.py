@@ -80,8 +80,7 @@ class WithoutTest(DroppingCase):
     def test_classes_in_the_order_of_their_first_columns(self):
         self.assert_left(SMALL, "from items i; join orders o; join items j; link o.id = j.price; "
                                 "link j.line = i.price; link i.line = o.customer; link o.customer = j.order; "
-                                "link i.order = j.price; "
-                                "where j.line = 8; where i.order = 9; rows", "o",
+                                "link i.order = j.price; where j.line = 8; where i.order = 9; rows", "o",
                          "from items i; join items j; link i.order = j.price; link i.line = j.order; "
                          "link i.price = j.line; where i.order = 9; where i.price = 8; rows")
 

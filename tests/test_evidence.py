@@ -72,8 +72,7 @@ class EvidenceTest(unittest.TestCase):
         many = {}
         words = [0, 1, True, False, (), [], None, "link", "m", "group", "filter", ("m", (0,)), ("filter", (0,)), {},
                  (0, 1), ("link", (1,)), ("group", (0, 0)), ("link", 0), ("link", 1), ("filter", 0), ("group", 0),
-                 ("m", ()),
-                 "same", "known", (1, 0), *ANY_VALUES]
+                 ("m", ()), "same", "known", (1, 0), *ANY_VALUES]
         for rng, report in some_cases("changed", 400):
             found = all_answers(report)
             pool = words + [part for _, answer, _, _ in found for part in answer]
