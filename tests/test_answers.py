@@ -26,12 +26,20 @@ class AnswersCase(unittest.TestCase):
         self.assertIs(is_loss_answer(report, loss), True)
         self.assertEqual(str(report), text)
 
-    def assert_judged(self, judge, report, value, expected):
-        """Check what a judge says of a value, and that it leaves it as it is."""
+    def judge(self, report, value, expected):
+        """Check what the judges of this class say of any value, and that they leave it as it is."""
         before = copy.deepcopy(value)
-        self.assertIs(judge(report, value), expected, value)
-        self.assertIs(judge(report=report, value=value), expected, value)
+        for judge in self.judges:
+            self.assertIs(judge(report, value), expected, value)
+        self.assertIs(self.judges[0](report=report, value=value), expected)
         self.assertEqual(value, before)
+
+    def judge_other_kinds(self, report):
+        """Check values of every kind, alone and behind a word."""
+        for value in ANY_VALUES:
+            for other in (value, ("yes", value), ("no", value), ("yes", value, value, value),
+                          ("no", value, value, value)):
+                self.judge(report, other, False)
 
 
 class ExamplesTest(AnswersCase):
@@ -50,13 +58,12 @@ class ExamplesTest(AnswersCase):
         self.assert_answers(self.lines, "no yes no")
 
     def test_judged_values(self):
-        self.assert_judged(
-            is_loss_answer, self.lines, ("no", {"orders": [(1, 5)], "items": []}, (1, 5), ("i", [])), True)
+        self.assertIs(is_loss_answer(self.lines, ("no", {"orders": [(1, 5)], "items": []}, (1, 5), ("i", []))), True)
         first = {"o": (1, 5), "i": (1, 1, 20)}
         second = {"o": (1, 5), "i": (1, 2, 20)}
         database = {"orders": [(1, 5)], "items": [(1, 1, 20), (1, 2, 20)]}
-        self.assert_judged(is_once_answer, self.lines, ("no", database, first, second), True)
-        self.assert_judged(is_once_answer, self.lines, ("yes", []), False)
+        self.assertIs(is_once_answer(self.lines, ("no", database, first, second)), True)
+        self.assertIs(is_once_answer(self.lines, ("yes", [])), False)
 
     def test_report_of_the_document(self):
         self.assert_answers(Report.parse(self.schema, SALES), "yes yes no")
@@ -165,9 +172,7 @@ class WordsTest(AnswersCase):
 
 
 class OnceTest(AnswersCase):
-    def judge(self, report, value, expected):
-        self.assert_judged(is_once_answer, report, value, expected)
-        self.assertIs(is_plain_once_answer(report, value), expected)
+    judges = (is_once_answer, is_plain_once_answer)
 
     def test_steps(self):
         report = report_of(SHOP, "from items i; join orders o; join clients c; link i.order = o.id; "
@@ -276,18 +281,11 @@ class OnceTest(AnswersCase):
         self.judge(report, ("no", {"a": [one, two]}, {"i": one, "j": one}, {"i": one, "j": two}), False)
 
     def test_other_kinds(self):
-        report = report_of(SMALL, LINES + "rows")
-        for value in ANY_VALUES:
-            self.judge(report, value, False)
-            for word in ("yes", "no"):
-                self.judge(report, (word, value), False)
-                self.judge(report, (word, value, value, value), False)
+        self.judge_other_kinds(report_of(SMALL, LINES + "rows"))
 
 
 class SumTest(AnswersCase):
-    def judge(self, report, value, expected):
-        self.assert_judged(is_sum_answer, report, value, expected)
-        self.assertIs(is_plain_sum_answer(report, value), expected)
+    judges = (is_sum_answer, is_plain_sum_answer)
 
     def test_steps(self):
         report = report_of(SHOP, "from items i; join orders o; join clients c; link i.order = o.id; "
@@ -346,18 +344,11 @@ class SumTest(AnswersCase):
             self.judge(report, ("no", database, match, one), False)
 
     def test_other_kinds(self):
-        report = report_of(SMALL, LINES + "by i.line; rows")
-        for value in ANY_VALUES:
-            self.judge(report, value, False)
-            for word in ("yes", "no"):
-                self.judge(report, (word, value), False)
-                self.judge(report, (word, value, value, value), False)
+        self.judge_other_kinds(report_of(SMALL, LINES + "by i.line; rows"))
 
 
 class LossTest(AnswersCase):
-    def judge(self, report, value, expected):
-        self.assert_judged(is_loss_answer, report, value, expected)
-        self.assertIs(is_plain_loss_answer(report, value), expected)
+    judges = (is_loss_answer, is_plain_loss_answer)
 
     def test_paths(self):
         report = report_of(SHOP, "from items i; join orders o; join clients c; link i.order = o.id; "
@@ -485,12 +476,7 @@ class LossTest(AnswersCase):
         self.judge(report, ["no", database, (1, 5), ("i", [])], False)
 
     def test_other_kinds(self):
-        report = report_of(SMALL, LINES + "rows")
-        for value in ANY_VALUES:
-            self.judge(report, value, False)
-            for word in ("yes", "no"):
-                self.judge(report, (word, value), False)
-                self.judge(report, (word, value, value, value), False)
+        self.judge_other_kinds(report_of(SMALL, LINES + "rows"))
 
 
 class CanonicalTest(unittest.TestCase):
