@@ -27,6 +27,8 @@ def is_once_answer(report, value):
     if not are_two_matches(report, value):
         return False
     one, other = value[2:]
+    if measured_row(report, one) != measured_row(report, other):
+        return False
     return one != other and group_of(report, one) == group_of(report, other)
 
 
@@ -60,6 +62,8 @@ def is_sum_answer(report, value):
     if not are_two_matches(report, value):
         return False
     one, other = value[2:]
+    if measured_row(report, one) != measured_row(report, other):
+        return False
     return group_of(report, one) != group_of(report, other)
 
 
@@ -81,15 +85,13 @@ def is_yes(value):
 
 
 def are_two_matches(report, value):
-    """Tell whether any value is "no" with a valid database and two matches that have one measured row."""
+    """Tell whether any value is "no" with a valid database and two matches in it."""
     if not isinstance(value, tuple) or len(value) != 4 or value[0] != "no":
         return False
     _, database, one, other = value
     if not is_valid_database(report.schema, database):
         return False
-    if not is_match(report, database, one) or not is_match(report, database, other):
-        return False
-    return measured_row(report, one) == measured_row(report, other)
+    return is_match(report, database, one) and is_match(report, database, other)
 
 
 def loses_none(report):

@@ -10,20 +10,35 @@ def two_matches(report, knowledge):
 
     All allowed steps must have been taken, and the report must not be empty.
     """
+    known = [column for column in all_columns(report) if knowledge.is_known(column)]
+    database, found = agreeing_matches(report, knowledge.classes, [known])
+    return database, found[0], found[1]
+
+
+def agreeing_matches(report, classes, kept):
+    """Return a valid database and a list of matches in it: a first one, and one for each list of columns in kept.
+
+    This one has the cells of the first one in the classes of these columns, and other ones elsewhere. All allowed
+    steps ("same", ...) must have been taken, the report must not be empty, and each list has all columns that it
+    determines.
+    """
     growth = Growth(report.schema, filter_values(report))
-    classes = knowledge.classes
-    cells = class_cells(growth, report, classes)
-    others = class_cells(growth, report, classes)
-    for column in all_columns(report):
-        if knowledge.is_known(column):
-            number = classes.class_of(column)
-            others[number] = cells[number]
+    first = class_cells(growth, report, classes)
     tables = alias_tables(report)
-    one = {alias: class_row(classes, cells, alias, tables[alias], []) for alias in tables}
-    two = {alias: class_row(classes, others, alias, tables[alias], []) for alias in tables}
+    found = [whole_match(classes, first, tables)]
+    for columns in kept:
+        cells = class_cells(growth, report, classes)
+        for column in columns:
+            cells[classes.class_of(column)] = first[classes.class_of(column)]
+        found.append(whole_match(classes, cells, tables))
     followed = {alias: list(range(len(tables[alias].refers))) for alias in tables}
-    grow(growth, tables, [one, two], followed)
-    return growth.database, one, two
+    grow(growth, tables, found, followed)
+    return growth.database, found
+
+
+def whole_match(classes, cells, tables):
+    """Return a match that has the cells of its classes everywhere."""
+    return {alias: class_row(classes, cells, alias, tables[alias], []) for alias in tables}
 
 
 def canonical_match(report, barred):

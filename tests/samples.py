@@ -105,6 +105,15 @@ ANY_VALUES = [
 ]
 
 
+def exact(value):
+    """Return a value with the kinds of all its parts, so that True and 1 differ; the order in dicts means nothing."""
+    if type(value) is dict:
+        return (dict, [(exact(key), exact(value[key])) for key in sorted(value, key=repr)])
+    if type(value) in (list, tuple):
+        return (type(value), [exact(part) for part in value])
+    return (type(value), value)
+
+
 def wrong_row(parse, text):
     """Return the row of the InvalidText that parse raises for a text, or None if it raises nothing."""
     try:
