@@ -1,7 +1,7 @@
 """Results of a report in a database: its matches, pairs and sums."""
 
 from countonce.databases import cells_at
-from countonce.matching import cell_at, column_places, filter_holds, keeps_filters, link_holds
+from countonce.matching import cell_at, column_places, filter_holds, group_of, keeps_filters, link_holds
 from countonce.reports import alias_tables
 
 
@@ -70,6 +70,18 @@ def holds_alone(report, places, alias, row):
     return all([filter_holds(places, rows, condition) for condition in own])
 
 
+def pair_matches(report, database, row, group):
+    """Yield each match with a measured row and a group once."""
+    names = list(alias_tables(report))
+    plan = joining_plan(report, database)
+    chosen = (row,)
+    if row in plan[0][0].get((), []):
+        for rows in joined_rows(plan, chosen):
+            match = {name: one for name, one in zip(names, rows)}
+            if group_of(report, match) == group:
+                yield match
+
+
 def all_pairs(report, database):
     """Return the list of the pairs of all matches, as often as they occur."""
     places = column_places(report)
@@ -85,6 +97,14 @@ def pairs(report, database):
     """Return the list of all pairs, each once."""
     found = {pair: True for pair in all_pairs(report, database)}
     return list(found)
+
+
+def pair_counts(report, database):
+    """Return a dict from all pairs to the numbers of their matches."""
+    counts = {}
+    for pair in all_pairs(report, database):
+        counts[pair] = counts.get(pair, 0) + 1
+    return counts
 
 
 def joined(report, database):

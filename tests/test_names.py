@@ -19,6 +19,8 @@ FUNCTIONS = {
                    "is_determined_answer(report, columns, column, value)"],
     "lists": ["least_lists(report, column=None)", "greatest_lists(report, column=None)"],
     "example": ["one_example(report)", "is_example(report, value)"],
+    "within": ["within(report, other)", "is_within_answer(report, other, value)", "same_pairs(report, other)"],
+    "often": ["equally_often(report, other)", "is_often_answer(report, other, value)"],
 }
 CLASSES = {
     "schemas": {"Schema": ["parse(text)", "table(self, name)"], "Table": []},
@@ -28,6 +30,11 @@ CLASSES = {
                       "watch(self, number)", "changes(self, number)"],
              "Transaction": ["insert(self, table, row)", "delete(self, table, row)", "commit(self)",
                              "rollback(self)", "__enter__(self)"]},
+    "ledgers": {"Ledger": ["__init__(self, live, report)", "standing(self)", "told(self)", "mark(self)",
+                           "between(self, first, second)"]},
+    "guards": {"Guarded": ["__init__(self, schema)", "__len__(self)", "rows(self, table)",
+                           "apply(self, inserts, deletes)", "guard_determined(self, report, columns, column)",
+                           "guard_within(self, report, other)", "guard_often(self, report, other)"]},
 }
 
 

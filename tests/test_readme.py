@@ -13,7 +13,7 @@ class ReadmeTest(unittest.TestCase):
         for statement in ast.parse(source).body:
             code = ast.unparse(statement)
             told = rows[statement.end_lineno - 1].partition("  # ")[2]
-            if isinstance(statement, ast.Expr) and told[:1] in "([{\"TF" and "a valid database" not in told:
+            if isinstance(statement, ast.Expr) and told and told[0] in "([{\"TF" and "a valid database" not in told:
                 self.assertEqual(eval(code, names), ast.literal_eval(told.partition(": the")[0]), code)
                 checked += 1
             else:
