@@ -25,10 +25,11 @@ def equally_often(report, other):
 
 
 def difference(report, other):
-    """Return a part of what each match of a report needs in which its pair has other numbers of matches, or None.
+    """Return (database, measured row, group) with different numbers of matches of two reports, or None.
 
-    It is returned as (database, measured row, group). If there is none, neither for the report nor, exchanged, for the
-    other one, they are equally frequent: Then a match of each one spans all that the other one needs.
+    The database is a part of what each match of the first report, which is not empty, needs. If there is no such part,
+    nor one for the reports exchanged, they are equally frequent: Each one has a match that spans all that the other
+    one needs, and the ways from one to the other and back can be repeated until they lead to each row itself.
     """
     growth, match = canonical_match(report, filter_values(other))
     spans = Spans(report.schema, growth.database)
@@ -39,15 +40,15 @@ def difference(report, other):
     differing = [span for span in [*ones, *others] if ones.get(span, 0) != others.get(span, 0)]
     if not differing:
         return None
-    # In the part with the rows of a span are the matches of this span and of those within it. Those have smaller
-    # numbers, so that there are as many of each of them: of this span, there are not.
+    # The part with the rows of a span has the matches of this span and those of the spans within it. Each span within
+    # it is a smaller number, so that both reports have equally many matches of it, but not of the least differing one.
     return (spans.part(min(differing)), row, group)
 
 
 def undoing_evidence(report, other):
     """Return evidence that two reports are equally frequent, which they are; neither one is empty."""
     growth, match = canonical_match(report, filter_values(other))
-    back_growth, back_match = canonical_match(other, filter_values(report))
+    back_growth, _ = canonical_match(other, filter_values(report))
     found = spanning_match(report, growth, match, other)
     tables = alias_tables(report)
     other_tables = alias_tables(other)
